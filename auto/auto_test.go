@@ -79,6 +79,9 @@ func TestSteps(t *testing.T) {
 		{"(<a>|<b>)+", 3, "0>1a 0>2b 1>1a 1>2b 2>1a 2>2b", "12"},
 		{"(<a>/<b>)|<c>", 4, "0>1a 0>3c 1>2b", "23"},
 		{"<a>/<b>/<c>", 4, "0>1a 1>2b 2>3c", "3"},
+		{"<a>?|<b>", 3, "0>1a 0>2b", "012"},
+		{"<a>|<b>*", 3, "0>1a 0>2b 2>2b", "012"},
+		{"(<a>?|<b>)/<c>", 4, "0>1a 0>2b 0>3c 1>3c 2>3c", "3"},
 		{"^<a>", 2, "0>1^a", "1"},
 		{"^^<a>", 2, "0>1a", "1"},
 		{"^!(<a>|<b>)", 2, "0>1^!a|b", "1"},
@@ -125,7 +128,9 @@ func TestNewRefuses(t *testing.T) {
 		}
 	}
 	twelve := "(" + alternatives(8) + "|(" + alternatives(4) + "|"
-	for s, steps := range map[string]int{alternatives(13) + "*": 182, twelve + "(<a>*/<b>)))*": 198, twelve + "((<a>|<b>)/<c>)))*": 198, alternatives(15): 15} {
+	// No path that may be has just MaxSteps steps, or up to nine more: the nearest are 199 and 210.
+	near := "((<a>|(<a>|<a>))|(<a>*/(<a>|<a>)))|" + alternatives(8)
+	for s, steps := range map[string]int{"(" + near + ")*": 199, alternatives(13) + "*": 182, twelve + "(<a>*/<b>)))*": 198, twelve + "((<a>|<b>)/<c>)))*": 198, alternatives(15): 15} {
 		if a := made(t, s); len(a.Steps()) != steps {
 			t.Error(s, len(a.Steps()))
 		}
@@ -207,7 +212,7 @@ func TestTakes(t *testing.T) {
 	all := words(4)
 	for _, s := range []string{
 		"<a>", "!<a>", "!(<a>|<b>)", "<a>*", "<a>+", "<a>?", "<a>/<b>", "<a>|<b>", "^<a>", "^^<a>", "^!<a>", "(<a>/<b>)*", "^((<a>/<b>)*/<a>)", "(<a>?/<b>?)+", "(<a>*/^<b>)+/<a>",
-		"^(<a>/^(<b>/!<a>))", "(<a>|<b>/<a>)*", "(<a>|^<a>)*", "<a>/<a>/<a>", "(<a>?)*/<b>", "^(<a>?/(<b>|^<a>)+)", "(!<a>/!<b>)?", "((<a>*)+)?", "(<a>+/<b>+)+", "<a>?/<a>?/<a>?",
+		"^(<a>/^(<b>/!<a>))", "(<a>|<b>/<a>)*", "(<a>|^<a>)*", "<a>/<a>/<a>", "(<a>?)*/<b>", "^(<a>?/(<b>|^<a>)+)", "(!<a>/!<b>)?", "((<a>*)+)?", "(<a>+/<b>+)+", "<a>?/<a>?/<a>?", "<a>?|<b>", "(<a>|<b>*)/<a>",
 	} {
 		p := path(t, s)
 		a := made(t, s)

@@ -103,7 +103,7 @@ func TestRows(t *testing.T) {
 func TestUnknownTerms(t *testing.T) {
 	s := load(t, family)
 	for pattern, want := range map[string]bool{
-		"z <p>* z": true, "z <p>? z": true, "z <p>*/<q>? z": true, "z <p>|<q>* z": true, "z ^(<p>*) z": true, "z (<p>?)+ z": true, "z (!<p>)* z": true,
+		"z <p>* z": true, "z <p>? z": true, "z <p>*/<q>? z": true, "z <p>|<q>* z": true, "z ^(<p>*) z": true, "z (<p>?)+ z": true, "z (!<p>)* z": true, "z <p>*|<q> z": true, "z <p>?/<q>? z": true,
 		"z <p> z": false, "z !<p> z": false, "z <p>+ z": false, "z <p>*/<q> z": false, "z <p>|<q> z": false, "z ^<p> z": false, "z <p>/<q>* z": false,
 		"z <p>* y": false, "z <p>* a": false, "a <p>* z": false, "a <p>* a": true, "p <q>* p": true, "a <p>* d": true, "d <p>* a": false,
 	} {
@@ -125,6 +125,11 @@ func TestUnknownTerms(t *testing.T) {
 	literal.Patterns[0].O = api.End{T: api.Term{Kind: api.IRI, Text: "x"}}
 	if rows, no := Rows(s, literal); no != api.OK || len(rows) != 0 {
 		t.Error(rows, no)
+	}
+	for pattern, want := range map[string]int{"a <p> b": 1, "b ^<p> a": 1, "b <p> a": 0, "a ^<p> b": 0} {
+		if rows, no := Rows(load(t, "<a><p><b>."), ask(t, pattern)); no != api.OK || len(rows) != want {
+			t.Error(pattern, rows, no)
+		}
 	}
 	if rows, no := Rows(load(t, ""), ask(t, "z <p>* z")); no != api.OK || len(rows) != 1 {
 		t.Error("empty store", rows, no)
@@ -253,6 +258,7 @@ func TestManyThatNearlyHold(t *testing.T) {
 	}{
 		{long, []string{"?a <p>+ ?b", "?b <p>+ ?c", "?c <p>+ ?d", "?d <p>+ ?a"}},
 		{long, []string{"?a <p>+ ?b", "?b <p>+ ?c", "?c <p>+ ?d", "?d <p>+/<x> ?e"}},
+		{round, []string{"?a <p>+ ?b", "?b <p>+ ?c", "?c <p>+ ?d", "?d <p>+/<x> ?e"}},
 		{long, []string{"?a <p>+ ?b", "?c <p>+ ?d", "?e <p>+ ?f", "?f <p>+/<x> ?a"}},
 		{round, []string{"?a (<p>/<p>)* ?b", "?b (<p>/<p>)* ?c", "?c (<p>/<p>)* ?d", "?d <p>/(<p>/<p>)* ?a"}},
 		{round, []string{"?c (<p>/<p>)* ?d", "?d (<p>/<p>)* ?a", "?a (<p>/<p>)* ?b", "?a <p>/(<p>/<p>)* ?b"}},

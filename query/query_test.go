@@ -40,6 +40,7 @@ func queriesThatMayBe() []api.Query {
 		with(func(q *api.Query) { q.Ask = true; q.Limit = 5; q.Offset = 5 }),
 		with(func(q *api.Query) { q.Patterns[0] = pattern("x", "x") }),
 		with(func(q *api.Query) { q.Patterns[0] = pattern("abcdefgh", "a") }),
+		with(func(q *api.Query) { q.Patterns[0] = pattern("z", "az") }),
 		with(func(q *api.Query) { q.Patterns[0].S = api.End{T: api.Term{Kind: api.Plain, Text: ""}} }),
 		with(func(q *api.Query) { q.Patterns[0].S, q.Patterns[0].O = end("a"), end("b") }),
 		with(func(q *api.Query) {
