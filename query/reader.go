@@ -38,31 +38,25 @@ func (r *reader) whole() (api.Path, api.Errno) {
 }
 
 func (r *reader) path(depth int) (api.Path, api.Errno) {
-	p, no := r.sequence(depth)
-reading:
-	for no == api.OK {
-		if r.peek() != '|' {
-			break reading
-		}
-		r.at++
-		var next api.Path
-		next, no = r.sequence(depth)
-		p = api.Path{Kind: api.PathAlt, Kids: []api.Path{p, next}}
-	}
-	return p, no
+	return r.row('|', api.PathAlt, depth, r.sequence)
 }
 
 func (r *reader) sequence(depth int) (api.Path, api.Errno) {
-	p, no := r.step(depth)
+	return r.row('/', api.PathSeq, depth, r.step)
+}
+
+// row reads parts with a sign between, bound to the left.
+func (r *reader) row(sign byte, kind, depth int, part func(depth int) (api.Path, api.Errno)) (api.Path, api.Errno) {
+	p, no := part(depth)
 reading:
 	for no == api.OK {
-		if r.peek() != '/' {
+		if r.peek() != sign {
 			break reading
 		}
 		r.at++
 		var next api.Path
-		next, no = r.step(depth)
-		p = api.Path{Kind: api.PathSeq, Kids: []api.Path{p, next}}
+		next, no = part(depth)
+		p = api.Path{Kind: kind, Kids: []api.Path{p, next}}
 	}
 	return p, no
 }
